@@ -1,0 +1,1 @@
+"""Fewtell: what a few drawn people tell of all people."""
