@@ -1,4 +1,4 @@
-"""Which kind a plain value is of, and copies of plain values."""
+"""Which kind a plain value is of, powers of numbers, and copies of plain values."""
 
 
 def is_number(value):
@@ -14,6 +14,19 @@ def is_between(value, least, most):
 def is_tuple_of(value, many):
     """Whether any value is a tuple of so many items."""
     return isinstance(value, tuple) and len(value) == many
+
+
+def is_list(value):
+    """Whether any value may be passed where a list is documented."""
+    return isinstance(value, (list, tuple))
+
+
+def raised(number, count):
+    """The product of so many times a number."""
+    found = 1
+    for _ in range(count):
+        found = found * number
+    return found
 
 
 def copied(value):

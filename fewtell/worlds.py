@@ -1,7 +1,7 @@
 """Worlds: the parts that people live in, and the traits that they have."""
 
 from fewtell.errors import InvalidEntry, InvalidPart, InvalidPerson, InvalidTrait, UnknownName
-from fewtell.kinds import is_between, is_tuple_of
+from fewtell.kinds import is_between, is_list, is_tuple_of
 
 LETTERS = "abcdefghijklmnopqrstuvwxyz"
 LONGEST_NAME = 8
@@ -37,7 +37,7 @@ def is_trait(row):
 
 def first_wrong(rows, most, is_right):
     """The index of the first row that a world refuses, None if it takes all of them."""
-    if not isinstance(rows, (list, tuple)) or not rows:
+    if not is_list(rows) or not rows:
         return 0
     names = []
     for index, row in enumerate(rows):
@@ -56,6 +56,18 @@ def people_below(node, sizes):
     for index in range(sizes[0]):
         child = (*node, index)
         yield from people_below(child, deeper)
+
+
+def meeting(one, other):
+    """The level at which two people meet, None if they are of different parts."""
+    if one[0] != other[0]:
+        return None
+    level = 0
+    for index, its_index in zip(one[1:], other[1:]):
+        if index != its_index:
+            return level
+        level = level + 1
+    return level
 
 
 class World:
@@ -101,6 +113,10 @@ class World:
                 return trait
         raise UnknownName(name)
 
+    def sizes(self, part):
+        """The sizes of the part with a number."""
+        return self._parts[part][1]
+
     def depth(self, part):
         """The number of levels below the root of the part with a number."""
         return len(self._parts[part][1])
@@ -112,28 +128,25 @@ class World:
             people = people * children
         return people
 
-    def is_person(self, value):
-        """Whether any value is a person of this world."""
+    def is_node(self, value):
+        """Whether any value is a node of this world."""
         if not isinstance(value, tuple) or not value or not is_between(value[0], 0, len(self._parts) - 1):
             return False
         sizes = self._parts[value[0]][1]
-        if len(value) != 1 + len(sizes):
+        if len(value) > 1 + len(sizes):
             return False
         return all([is_between(index, 0, size - 1) for index, size in zip(value[1:], sizes)])
+
+    def is_person(self, value):
+        """Whether any value is a person of this world."""
+        return self.is_node(value) and len(value) == 1 + self.depth(value[0])
 
     def meet(self, one, other):
         """The level at which two people meet, None if they are of different parts."""
         for value in (one, other):
             if not self.is_person(value):
                 raise InvalidPerson(value)
-        if one[0] != other[0]:
-            return None
-        level = 0
-        for index, its_index in zip(one[1:], other[1:]):
-            if index != its_index:
-                return level
-            level = level + 1
-        return level
+        return meeting(one, other)
 
     def entry(self, trait, people):
         """The standard entry of a trait for a tuple of people."""
