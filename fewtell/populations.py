@@ -99,7 +99,7 @@ class Population:
         for value in (one, other):
             if not self._world.is_node(value):
                 raise InvalidPerson(value)
-        if len(one) < 2 or len(other) != len(one) or other[:-1] != one[:-1]:
+        if len(one) < 2 or other[:-1] != one[:-1]:
             raise InvalidPerson(other)
         rows = []
         for (trait, people), number in self.rows():

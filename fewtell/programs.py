@@ -1,8 +1,8 @@
 """Programs: sums, products and tests over people, as tuples."""
 
 from fewtell.errors import InvalidProgram, TooLarge, TooMany, TooWide
-from fewtell.kinds import is_between, is_tuple_of, raised
-from fewtell.ratios import is_ratio
+from fewtell.kinds import is_between, is_number, is_tuple_of, raised
+from fewtell.ratios import ONE, is_ratio, times
 from fewtell.worlds import is_name
 
 MOST_PLACES = 4
@@ -23,9 +23,7 @@ def are_variables(value, many, scope):
 
 def is_num(world, value, waves, scope):
     """Whether a tuple that begins with num is of its form."""
-    if len(value) != 3 or not is_ratio(value[1:]):
-        return False
-    return is_between(value[1], -GREATEST_NUM, GREATEST_NUM) and value[2] <= GREATEST_NUM
+    return is_ratio(value[1:]) and abs(value[1]) <= GREATEST_NUM and value[2] <= GREATEST_NUM
 
 
 def is_trait(world, value, waves, scope):
@@ -156,3 +154,72 @@ def products_of(program):
     for measure in measures:
         found = found * measure
     return found
+
+
+def atom_of(program):
+    """A trait or a test as a tuple (kind, label, variables)."""
+    kind = program[0]
+    if kind == "trait":
+        return program
+    if kind == "same":
+        return (kind, "", program[1:])
+    return (kind, program[1], program[2:])
+
+
+def bound(atom, variable, number):
+    """An atom in which a variable has become the one with a number."""
+    kind, label, variables = atom
+    return (kind, label, tuple([number if name == variable else name for name in variables]))
+
+
+def shifted(atom, many):
+    """An atom in which the numbers of all numbered variables are greater by so many."""
+    kind, label, variables = atom
+    return (kind, label, tuple([name + many if is_number(name) else name for name in variables]))
+
+
+def joined(one, other):
+    """The product of two products; the variables of the second one are numbered behind those of the first one."""
+    factor, many, atoms = one
+    its_factor, its_many, its_atoms = other
+    found = list(atoms)
+    for atom in its_atoms:
+        moved = shifted(atom, many)
+        # A test is 0 or 1, so that its powers are the test itself.
+        if moved[0] == "trait" or moved not in found:
+            found.append(moved)
+    return (times(factor, its_factor), many + its_many, tuple(found))
+
+
+def all_joined(factors):
+    """The products of a product of programs; of each program its products are given."""
+    found = [(ONE, 0, ())]
+    for products in factors:
+        found = [joined(one, other) for one in found for other in products]
+    return found
+
+
+def summed(product, variable):
+    """The sum over all people for whom a variable of a product may stand."""
+    factor, many, atoms = product
+    return (factor, many + 1, tuple([bound(atom, variable, many) for atom in atoms]))
+
+
+def multiplied_out(program):
+    """The products whose sum a program is: tuples (factor, number of variables, atoms).
+
+    The variables of the sums are numbered from 0 on; an atom is a trait or a test, a tuple (kind, label, variables).
+    """
+    kind = program[0]
+    if kind == "num":
+        return [(program[1:], 0, ())]
+    if kind == "sum":
+        return [summed(product, program[1]) for product in multiplied_out(program[2])]
+    if kind == "plus":
+        return [product for part in program[1:] for product in multiplied_out(part)]
+    if kind == "times":
+        return all_joined([multiplied_out(part) for part in program[1:]])
+    if kind == "power":
+        # The part of a power with the count 0 may have any number of products; it is not looked at.
+        return all_joined([multiplied_out(program[1]) for _ in range(program[2])])
+    return [(ONE, 0, (atom_of(program),))]

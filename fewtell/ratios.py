@@ -6,6 +6,8 @@ from fewtell.kinds import is_number, is_tuple_of
 
 ZERO = (0, 1)
 ONE = (1, 1)
+DIGITS_AT_ONCE = 320
+SPLIT = 10 ** 64 * 10 ** 64 * 10 ** 64 * 10 ** 64 * 10 ** 64
 
 
 def ratio(top, bottom=1):
@@ -49,8 +51,21 @@ def is_ratio(value):
     return value[1] > 0 and gcd(value[0], value[1]) == 1
 
 
+def number_text(number):
+    """The digits of a number, however many there are."""
+    if number < 0:
+        return f"-{number_text(-number)}"
+    words = []
+    # Python refuses to write more than 4300 digits at once.
+    while number >= SPLIT:
+        number, rest = divmod(number, SPLIT)
+        words.append(str(rest).zfill(DIGITS_AT_ONCE))
+    words.append(str(number))
+    return "".join(words[::-1])
+
+
 def ratio_text(value):
     """The text of a fraction: the bottom stands there only if it is not 1."""
     if value[1] == 1:
-        return str(value[0])
-    return f"{value[0]}/{value[1]}"
+        return number_text(value[0])
+    return f"{number_text(value[0])}/{number_text(value[1])}"

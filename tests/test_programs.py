@@ -165,6 +165,11 @@ class TestForms(Checks):
         self.refused(("plus", ("sum", "i", ONE), ("sum", "j", F)), (1, 0))
         self.refused(F, ())
 
+    def test_a_part_is_no_variable(self):
+        for kind in ("plus", "times"):
+            self.refused((kind, ONE, ("trait", "f", (ONE,))), (1,))
+            self.refused((kind, ONE, ("same", ONE, ONE)), (1,))
+
     def test_plus_and_times(self):
         for kind in ("plus", "times"):
             for many in range(2, 9):

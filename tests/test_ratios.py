@@ -149,6 +149,16 @@ class TestText(unittest.TestCase):
         self.assertEqual(ratio_text((3, 10)), "3/10")
         self.assertEqual(ratio_text((-1, BIG)), "-1/" + "9" * 31)
 
+    def test_many_digits(self):
+        for many in (319, 320, 321, 640, 4299, 4300, 4301, 9000):
+            top = 1
+            for _ in range(many):
+                top *= 10
+            self.assertEqual(ratio_text((top, 1)), "1" + "0" * many)
+            self.assertEqual(ratio_text((top - 1, 1)), "9" * many)
+            self.assertEqual(ratio_text((-top - 1, 1)), "-1" + "0" * (many - 1) + "1")
+            self.assertEqual(ratio_text((1 - top, top)), "-" + "9" * many + "/1" + "0" * many)
+
 
 if __name__ == "__main__":
     unittest.main()

@@ -370,6 +370,13 @@ class TestPositions(unittest.TestCase):
         self.assertEqual(program_text(read_program(start + "sum(i,j)" + "))" * 5)), start + "sum(i,j)" + "))" * 5)
         self.refused(start + "sum(i;", len(start) + 5)
 
+    def test_inside_of_ten_others_at_each_place(self):
+        for start in ["(1 + ", "(1 * 2 * ", "(1 + 2 + 3 + ", "(f(i) + f(i) + f(i) + f(i) + f(i) + f(i) + f(i) + "]:
+            whole = start * 10 + "7" + ")" * 10
+            self.assertEqual(program_text(read_program(whole)), whole)
+            self.refused(start * 11 + "7" + ")" * 11, 10 * len(start))
+            self.refused(start * 10 + "sum(i: 1)", 10 * len(start) + 5)
+
     def test_parentheses_that_were_closed_do_not_count(self):
         text = "(" + " + ".join([opened("3", 9)] * 8) + ")"
         self.assertEqual(program_text(read_program(text)), text)

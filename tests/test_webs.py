@@ -7,6 +7,7 @@ import unittest
 from fewtell.errors import InvalidWeb
 from fewtell.webs import is_web, seatings, standard, web_entries, web_text
 from fewtell.worlds import World
+from tests.by_hand import random_web, renamed
 
 TRAITS = [
     ("f", 1, False, False), ("g", 2, False, False), ("even", 2, False, True), ("flag", 1, True, False),
@@ -195,46 +196,6 @@ def least(world, web):
         people = renumbered([web[0][at] for at in order])
         found.append((people, tuple(web[1][at] for at in order), tuple(sorted(entries))))
     return min(found)
-
-
-def random_web(source, world, waves=("a", "b"), most=4):
-    people = list(world.all_people())
-    chosen = tuple(source.sample(people, source.randint(0, min(most, len(people)))))
-    wishes = tuple(tuple(name for name in waves if source.random() < 0.3) for _ in chosen)
-    pairs = []
-    while chosen and (len(pairs) < 2 or source.random() < 0.7):
-        name, ends, is_flag, is_even = source.choice(world.traits())
-        positions = tuple(source.randrange(len(chosen)) for _ in range(ends))
-        pair = (name, tuple(sorted(positions)) if is_even else positions)
-        if not is_flag or pair not in pairs:
-            pairs.append(pair)
-    web = (chosen, wishes, tuple(sorted(pairs)))
-    return web if is_web(world, web, waves=waves) else random_web(source, world, waves, most)
-
-
-def renamed(source, world, web):
-    """The same web with its people in another order, and with other names for them."""
-    order = list(range(len(web[0])))
-    source.shuffle(order)
-    evens = [name for name, _, _, is_even in world.traits() if is_even]
-    entries = []
-    for name, positions in web[2]:
-        places = tuple(order.index(at) for at in positions)
-        entries.append((name, tuple(sorted(places)) if name in evens else places))
-    names = {}
-    for part in range(len(world)):
-        nodes = [(part,)]
-        for size in world.sizes(part):
-            below = []
-            for node in nodes:
-                shuffled = list(range(size))
-                source.shuffle(shuffled)
-                for index in range(size):
-                    names[(*node, index)] = (*names.get(node, node), shuffled[index])
-                    below.append((*node, index))
-            nodes = below
-    people = tuple(names[web[0][at]] for at in order)
-    return (people, tuple(web[1][at] for at in order), tuple(sorted(entries)))
 
 
 class TestStandard(unittest.TestCase):
