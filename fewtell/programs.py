@@ -205,6 +205,15 @@ def summed(product, variable):
     return (factor, many + 1, tuple([bound(atom, variable, many) for atom in atoms]))
 
 
+def power_products(part, count):
+    """The products of a power."""
+    # The part of a power with the count 0 may have any number of products, and is not looked at.
+    if count == 0:
+        return all_joined([])
+    products = multiplied_out(part)
+    return all_joined([products for _ in range(count)])
+
+
 def multiplied_out(program):
     """The products whose sum a program is: tuples (factor, number of variables, atoms).
 
@@ -220,6 +229,5 @@ def multiplied_out(program):
     if kind == "times":
         return all_joined([multiplied_out(part) for part in program[1:]])
     if kind == "power":
-        # The part of a power with the count 0 may have any number of products; it is not looked at.
-        return all_joined([multiplied_out(program[1]) for _ in range(program[2])])
+        return power_products(program[1], program[2])
     return [(ONE, 0, (atom_of(program),))]

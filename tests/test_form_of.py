@@ -149,6 +149,14 @@ class TestForms(unittest.TestCase):
         wide = within(("trait", "f", ("i",)), "i", "j", "k", "l", "m")
         self.assertEqual(form_of(world, ("times", ("power", wide, 0), ("num", 3, 1))), constant(world, (3, 1)))
 
+    def test_powers_inside_of_one_another(self):
+        test, number = ("near", 1, "i", "i"), ("num", -1, 1)
+        for _ in range(8):
+            test, number = ("power", test, 4), ("power", number, 3)
+        world = World([("a", (3, 2)), ("b", (4,))], TRAITS)
+        self.assertEqual(str(form_of(world, ("sum", "i", test))), "10 1")
+        self.assertEqual(str(form_of(world, number)), "-1 1")
+
     def test_numbers_of_many_digits(self):
         program = ("num", 999999999, 999999998)
         for _ in range(4):
