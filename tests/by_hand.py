@@ -4,6 +4,7 @@ import itertools
 from fractions import Fraction
 
 from fewtell.errors import FewError
+from fewtell.forms import Form
 from fewtell.plans import Plan
 from fewtell.populations import Population
 from fewtell.programs import check_program
@@ -133,6 +134,39 @@ def all_drawings(plan):
                 longer.append((its_chance, {**waves, name: nodes}))
         found = longer
     return found
+
+
+def is_seen(plan, waves, trait, people):
+    """Whether an entry is seen in a drawing, straight from the words of the document."""
+    for name, wave, ends in plan.sights():
+        hits = [person in waves[wave] for person in people]
+        if name == trait and {"all": all(hits), "any": any(hits), "first": hits[0]}[ends]:
+            return True
+    return False
+
+
+def seen_number(plan, web, population, waves):
+    """The sum of a web without wishes over the seatings all of whose entries are seen in a drawing."""
+    found = 0
+    for seats in all_seatings(plan.world, web[0]):
+        product = 1
+        for name, positions in web[2]:
+            people = tuple(seats[at] for at in positions)
+            product *= population.number(name, people) if is_seen(plan, waves, name, people) else 0
+        found += product
+    return found
+
+
+def average(drawings, number):
+    """The average of a number of the waves of drawings over pairs (chance, waves)."""
+    return sum([chance * number(waves) for chance, waves in drawings], Fraction(0))
+
+
+def random_target(source, world, many=3, most=2):
+    """A form without wishes with up to so many webs of at most so many people each."""
+    factors = [(1, 1), (-2, 1), (1, 3), (5, 2)]
+    webs = [random_web(source, world, (), most) for _ in range(source.randint(1, many))]
+    return Form(world, [(web, source.choice(factors)) for web in webs])
 
 
 def random_program(source, world, waves=(), deep=5, scope=()):
