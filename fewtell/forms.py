@@ -68,7 +68,7 @@ def has_wishes(form):
 
 
 def web_number(guests, numbers, web):
-    """The sum of a web over the population in which the guests' entries have these numbers."""
+    """The sum of a web over the seatings of guests, whose entries have these numbers."""
     counts = list(counted_entries(web).values())
     found = 0
     for places in guests.seated(web):
@@ -76,6 +76,17 @@ def web_number(guests, numbers, web):
         for place, count in zip(places, counts):
             product = product * raised(numbers[place], count)
         found = found + product
+    return found
+
+
+def form_number(form, population, waves):
+    """The number of a form for a population, and for a drawing with the pairs (name, people) of its waves."""
+    rows = population.rows()
+    guests = Guests(form.world, [entry for entry, _ in rows], waves)
+    numbers = [number for _, number in rows]
+    found = ZERO
+    for web, factor in form.terms():
+        found = plus(found, times(factor, (web_number(guests, numbers, web), 1)))
     return found
 
 
@@ -120,13 +131,7 @@ class Form:
         """The number of the form for a population."""
         check_worlds(self, population)
         check_plain(self)
-        rows = population.rows()
-        guests = Guests(self._world, [entry for entry, _ in rows])
-        numbers = [number for _, number in rows]
-        found = ZERO
-        for web, factor in self.terms():
-            found = plus(found, times(factor, (web_number(guests, numbers, web), 1)))
-        return found
+        return form_number(self, population, [])
 
     def __add__(self, other):
         if not isinstance(other, Form):

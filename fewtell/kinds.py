@@ -1,4 +1,7 @@
-"""Which kind a plain value is of, powers of numbers, and copies of plain values."""
+"""Which kind a plain value is of, words for numbers, powers of numbers, and copies of plain values."""
+
+DIGITS = "0123456789"
+MOST_DIGITS = 31
 
 
 def is_number(value):
@@ -21,11 +24,23 @@ def is_list(value):
     return isinstance(value, (list, tuple))
 
 
+def is_numeral(word):
+    """Whether a string is a number that is not below 0, without a leading zero."""
+    if not 1 <= len(word) <= MOST_DIGITS or not all([digit in DIGITS for digit in word]):
+        return False
+    return word == "0" or word[0] != "0"
+
+
 def raised(number, count):
     """The product of so many times a number."""
     found = 1
-    for _ in range(count):
-        found = found * number
+    # Squares make few products out of a great count.
+    while count > 0:
+        if count & 1 == 1:
+            found = found * number
+        count = count >> 1
+        if count > 0:
+            number = number * number
     return found
 
 

@@ -93,50 +93,69 @@ def orders_of(guests, is_even):
 
 
 class Guests:
-    """The people of some standard entries, who can take the places of the people of webs."""
+    """People who can take the places of the people of webs: those of some standard entries, and those in waves."""
 
-    def __init__(self, world, entries):
-        people = sorted({person for _, row in entries for person in row})
+    def __init__(self, world, entries, waves=()):
+        rows = [row for _, row in [*entries, *waves]]
+        people = sorted({person for row in rows for person in row})
+        numbers = {person: number for number, person in enumerate(people)}
         traits = traits_by_name(world)
         self._parts = [person[0] for person in people]
         self._meets = [[meeting(one, other) for other in people] for one in people]
+        self._waves = {name: [numbers[person] for person in row] for name, row in waves}
         self._rows = {name: [] for name in traits}
         for number, (name, row) in enumerate(entries):
-            guests = [people.index(person) for person in row]
+            guests = [numbers[person] for person in row]
             for order in orders_of(guests, traits[name][3]):
                 self._rows[name].append((number, order))
 
     def seated(self, web):
-        """The seatings of a web without wishes that only have these entries: for each one the numbers of these.
+        """The seatings of a web that only have these entries, and have the people in the waves that are wished.
 
-        They stand in the order of the different pairs of the web.
+        For each one the numbers of its entries are told, in the order of the different pairs of the web. All people of
+        the web have entries or wishes.
         """
         people = web[0]
-        parts = [person[0] for person in people]
+        fits = [self.fitting(person[0], names) for person, names in zip(people, web[1])]
         levels = [[meeting(one, other) for other in people] for one in people]
         found = [([None for _ in people], ())]
         for name, positions in web_entries(web):
             longer = []
             for seats, numbers in found:
                 for number, guests in self._rows[name]:
-                    more = self.seats_with(parts, levels, seats, positions, guests)
+                    more = self.seats_with(fits, levels, seats, positions, guests)
                     if more is not None:
                         longer.append((more, (*numbers, number)))
             found = longer
+        for at in range(len(people)):
+            found = [(more, numbers) for seats, numbers in found for more in self.all_seats(fits, levels, seats, at)]
         return [numbers for _, numbers in found]
 
-    def seats_with(self, parts, levels, seats, positions, guests):
+    def fitting(self, part, wishes):
+        """The guests of a part who are in all wished waves."""
+        rows = [self._waves[name] for name in wishes]
+        return {guest: True for guest, its_part in enumerate(self._parts)
+                if its_part == part and all([guest in row for row in rows])}
+
+    def all_seats(self, fits, levels, seats, at):
+        """Seats of a web with each guest who can sit at a position, if nobody sits there."""
+        if seats[at] is not None:
+            return [seats]
+        return [[*seats[:at], guest, *seats[at + 1:]] for guest in fits[at]
+                if self.can_sit(fits, levels, seats, at, guest)]
+
+    def seats_with(self, fits, levels, seats, positions, guests):
         """Seats of a web in which guests have taken some positions, too; None if they cannot sit there."""
         found = list(seats)
         for at, guest in zip(positions, guests):
-            if not self.can_sit(parts, levels, found, at, guest):
+            if not self.can_sit(fits, levels, found, at, guest):
                 return None
             found[at] = guest
         return found
 
-    def can_sit(self, parts, levels, seats, at, guest):
-        """Whether a guest is of the part of a position, and meets those in the seats as its person does."""
-        if self._parts[guest] != parts[at]:
+    def can_sit(self, fits, levels, seats, at, guest):
+        """Whether a guest fits a position, and meets those in the seats as its person does."""
+        if guest not in fits[at]:
             return False
         # A seat that is taken can be taken again by the same guest only, who meets itself at the depth of its part.
         for place, other in enumerate(seats):

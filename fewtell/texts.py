@@ -3,11 +3,11 @@
 from math import gcd
 
 from fewtell.errors import InvalidText
+from fewtell.kinds import DIGITS
 from fewtell.programs import MOST_NESTED, MOST_PARTS
 from fewtell.ratios import ratio_text
 from fewtell.worlds import LETTERS, LONGEST_NAME, MOST_ENDS
 
-DIGITS = "0123456789"
 LEVELS = "0123"
 COUNTS = "01234"
 LONGEST_NUMBER = 9

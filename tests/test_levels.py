@@ -418,7 +418,7 @@ class TestNever(unittest.TestCase):
         self.assertEqual((answer.blocks.rows(), answer.told(), bool(answer)), (blocks.rows(), "below", False))
 
     def test_plans_that_never_spread_more(self):
-        # k66: drawing whole houses, or people of all houses, or by chance, told by the level numbers of the difference.
+        # Drawing whole houses, or people of all houses, or by chance, told by the level numbers of the difference.
         world = World.plain(12, 4)
         total = target("sum(i: f(i))", world)
         found = {}

@@ -152,7 +152,7 @@ class TestPossible(unittest.TestCase):
         self.assertGreater(checked, 10)
 
     def test_known_guesses(self):
-        # The words of k52: a total, the sum over pairs, and the sum of the squares of the deviations.
+        # A total, the sum over pairs, and the sum of the squares of the deviations.
         for size, many in [(9, 3), (5, 2), (7, 7), (MOST, 10), (10 ** 30 - 7, 10 ** 29)]:
             world = World.plain(size)
             plan = Plan(world, [("a", None, ((many,),))], [("f", "a", "all")])
