@@ -54,14 +54,14 @@ def web_of_seats(world, seats, wishes, pairs):
 
     wishes has names of waves for each seat; pairs are pairs (name of a trait, positions of seats).
     """
-    people = []
+    numbers = {}
     for seat in seats:
-        if seat not in people:
-            people.append(seat)
-    places = [people.index(person) for person in seats]
+        if seat not in numbers:
+            numbers[seat] = len(numbers)
+    places = [numbers[seat] for seat in seats]
     entries = [(name, tuple([places[at] for at in positions])) for name, positions in pairs]
-    names = [wishes_at(number, places, wishes) for number in range(len(people))]
-    return (tuple(people), tuple(names), ordered_entries(traits_by_name(world), entries))
+    names = [wishes_at(number, places, wishes) for number in range(len(numbers))]
+    return (tuple(numbers), tuple(names), ordered_entries(traits_by_name(world), entries))
 
 
 def taken_out(world, web):
