@@ -8,13 +8,12 @@ from fewtell.forms import check_worlds, form_number
 from fewtell.guesses import check_form, is_seen
 from fewtell.kinds import is_list, is_number, raised
 
-MOST_NODES = 24
 MOST_DRAWINGS = 300
 
 
 def are_nodes(world, value):
     """Whether any value is a list of a few different nodes of a world below the roots."""
-    if not is_list(value) or len(value) > MOST_NODES:
+    if not is_list(value) or len(value) > Drawing.MOST:
         return False
     if not all([world.is_node(node) and len(node) > 1 for node in value]):
         return False
@@ -184,10 +183,10 @@ def lot_count(how, supply):
     """How many lots of children of a node can be drawn; raises TooMany if one of them is too great for a drawing."""
     if how is None or is_number(how):
         many = supply if how is None else how
-        if many > MOST_NODES:
+        if many > Drawing.MOST:
             raise TooMany(MOST_DRAWINGS)
         return comb(supply, many)
-    if supply > MOST_NODES:
+    if supply > Drawing.MOST:
         raise TooMany(MOST_DRAWINGS)
     return 1 << supply
 
@@ -217,7 +216,7 @@ def lots_of(children, many):
 
 def check_many(rows):
     """Raises TooMany for too many lists of nodes, or for one with too many nodes."""
-    if len(rows) > MOST_DRAWINGS or any([len(nodes) > MOST_NODES for nodes in rows]):
+    if len(rows) > MOST_DRAWINGS or any([len(nodes) > Drawing.MOST for nodes in rows]):
         raise TooMany(MOST_DRAWINGS)
 
 

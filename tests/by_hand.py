@@ -9,6 +9,12 @@ from fewtell.plans import Plan
 from fewtell.populations import Population
 from fewtell.programs import check_program
 from fewtell.webs import is_web
+from fewtell.worlds import World
+
+TRAITS = [("f", 1, False, False), ("g", 2, False, False), ("even", 2, False, True), ("flag", 1, True, False)]
+SMALL = [
+    World(parts, TRAITS) for parts in ([("a", (3,))], [("a", (2, 2))], [("a", (1, 2)), ("b", (2,))], [("a", (2, 1, 2))])
+]
 
 
 def number_of(world, program, population, waves=None, stands=None):
@@ -305,3 +311,16 @@ def random_plan(source, world):
         if row not in sights:
             sights.append(row)
     return Plan(world, rows, sights)
+
+
+def some_plans(source, many, most=60, *, with_sights=False):
+    """Pairs of a random plan of a small world and all of its drawings, of which there are few."""
+    found = []
+    while len(found) < many:
+        plan = random_plan(source, source.choice(SMALL))
+        if with_sights and not plan.sights():
+            continue
+        drawings = all_drawings(plan)
+        if len(drawings) <= most:
+            found.append((plan, drawings))
+    return found

@@ -16,12 +16,9 @@ from fewtell.single import is_steady
 from fewtell.texts import read_program
 from fewtell.worlds import World
 from tests import by_hand
-from tests.by_hand import form_number, pair, random_plan, random_population, random_target, random_web
+from tests.by_hand import SMALL, TRAITS, form_number, pair, random_plan, random_population, random_target, random_web
+from tests.by_hand import some_plans
 
-TRAITS = [("f", 1, False, False), ("g", 2, False, False), ("even", 2, False, True), ("flag", 1, True, False)]
-SMALL = [
-    World(parts, TRAITS) for parts in ([("a", (3,))], [("a", (2, 2))], [("a", (1, 2)), ("b", (2,))], [("a", (2, 1, 2))])
-]
 MOST = 10 ** 30
 WORLD = World([("a", (4, 3)), ("b", (5,))], TRAITS)
 # Houses by number, and people out of them; b out of a; c by chance.
@@ -31,17 +28,6 @@ ROW_A = [(0, 1), (0, 3), (0, 1, 0), (0, 1, 2), (0, 3, 1), (0, 3, 2), (1, 0), (1,
 ROW_B = [(0, 1), (0, 3), (0, 1, 2), (0, 3, 1), (1, 0), (1, 4)]
 ROW_C = [(0, 3), (0, 3, 0), (0, 3, 1), (0, 3, 2)]
 ROWS = [ROW_A, ROW_B, ROW_C]
-
-
-def some_plans(source, many, most=60):
-    """Random plans of small worlds, with their drawings by hand."""
-    found = []
-    while len(found) < many:
-        plan = random_plan(source, source.choice(SMALL))
-        drawings = by_hand.all_drawings(plan)
-        if len(drawings) <= most:
-            found.append((plan, drawings))
-    return found
 
 
 def rows_of(plan, waves):

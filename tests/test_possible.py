@@ -15,13 +15,9 @@ from fewtell.possible import Closed, Possible, estimate_form, guess_for, seen_we
 from fewtell.texts import read_program
 from fewtell.webs import standard
 from fewtell.worlds import World
-from tests.by_hand import all_drawings, all_seatings, average, form_number, is_seen, pair, random_plan
-from tests.by_hand import random_population, random_target, random_web, seen_number
+from tests.by_hand import TRAITS, all_seatings, average, form_number, is_seen, pair, random_population, random_target
+from tests.by_hand import random_web, seen_number, some_plans
 
-TRAITS = [("f", 1, False, False), ("g", 2, False, False), ("even", 2, False, True), ("flag", 1, True, False)]
-SMALL = [
-    World(parts, TRAITS) for parts in ([("a", (3,))], [("a", (2, 2))], [("a", (1, 2)), ("b", (2,))], [("a", (2, 1, 2))])
-]
 MOST = 10 ** 30
 PLAIN = World.plain(9)
 THREE = Plan(PLAIN, [("a", None, ((3,),))], [("f", "a", "all")])
@@ -39,24 +35,11 @@ def entry(*people, trait="f"):
     return (trait, people)
 
 
-def some_plans(source, many, most=150):
-    """Random plans with sights of small worlds, with their drawings."""
-    found = []
-    while len(found) < many:
-        plan = random_plan(source, source.choice(SMALL))
-        if not plan.sights():
-            continue
-        drawings = all_drawings(plan)
-        if len(drawings) <= most:
-            found.append((plan, drawings))
-    return found
-
-
 class TestSight(unittest.TestCase):
     def test_chances_over_all_drawings(self):
         source = random.Random(481)
         above = 0
-        for plan, drawings in some_plans(source, 60):
+        for plan, drawings in some_plans(source, 60, 150, with_sights=True):
             its = random_web(source, plan.world, (), 3)
             for seats in itertools.islice(all_seatings(plan.world, its[0]), 3):
                 wanted = average(drawings, lambda waves: all(
@@ -67,7 +50,7 @@ class TestSight(unittest.TestCase):
 
     def test_seen_webs_over_all_drawings(self):
         source = random.Random(482)
-        for plan, drawings in some_plans(source, 40):
+        for plan, drawings in some_plans(source, 40, 150, with_sights=True):
             its = random_web(source, plan.world, (), 3)
             form = seen_web(plan, its)
             self.assertEqual(form.world, plan.world)
@@ -114,7 +97,7 @@ class TestPossible(unittest.TestCase):
     def test_guesses_that_are_right_on_average(self):
         source = random.Random(483)
         found = {"possible": 0, "closed": 0}
-        for plan, drawings in some_plans(source, 120):
+        for plan, drawings in some_plans(source, 120, 150, with_sights=True):
             form = random_target(source, plan.world)
             answer = guess_for(plan, form)
             found[answer.told()] += 1
@@ -139,7 +122,7 @@ class TestPossible(unittest.TestCase):
     def test_guess_is_the_sum_of_seen_webs_by_chances(self):
         source = random.Random(484)
         checked = 0
-        for plan, _ in some_plans(source, 60):
+        for plan, _ in some_plans(source, 60, 150, with_sights=True):
             form = random_target(source, plan.world)
             if not guess_for(plan, form):
                 continue
@@ -231,7 +214,7 @@ class TestClosed(unittest.TestCase):
     def test_no_table_of_guesses_is_right(self):
         source = random.Random(491)
         checked = 0
-        for plan, drawings in some_plans(source, 120, 60):
+        for plan, drawings in some_plans(source, 120, with_sights=True):
             form = random_target(source, plan.world)
             answer = guess_for(plan, form)
             if answer:
@@ -323,7 +306,7 @@ class TestClosed(unittest.TestCase):
         self.assertTrue(Closed(plan, target("sum(i: f(i))^3"), rows).holds())
         self.assertFalse(Closed(plan, target("sum(i: f(i))^3"), [(rows[0][0], 3), (rows[1][0], -3)]).holds())
         source = random.Random(492)
-        for its_plan, _ in some_plans(source, 60):
+        for its_plan, _ in some_plans(source, 60, 150, with_sights=True):
             form = random_target(source, its_plan.world)
             answer = guess_for(its_plan, form)
             if answer:

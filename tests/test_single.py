@@ -16,12 +16,8 @@ from fewtell.single import Another, One, Unsaid, is_steady, only_guess
 from fewtell.spreads import spread
 from fewtell.texts import read_program
 from fewtell.worlds import World
-from tests.by_hand import all_drawings, average, form_number, random_plan, random_population, random_target
+from tests.by_hand import SMALL, TRAITS, all_drawings, average, form_number, random_plan, random_population, random_target
 
-TRAITS = [("f", 1, False, False), ("g", 2, False, False), ("even", 2, False, True), ("flag", 1, True, False)]
-SMALL = [
-    World(parts, TRAITS) for parts in ([("a", (3,))], [("a", (2, 2))], [("a", (1, 2)), ("b", (2,))], [("a", (2, 1, 2))])
-]
 WORLD = World([("all", (9,))], TRAITS)
 MOST = 10 ** 30
 

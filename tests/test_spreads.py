@@ -13,12 +13,8 @@ from fewtell.spreads import error, spread
 from fewtell.texts import read_program
 from fewtell.webs import is_web
 from fewtell.worlds import World
-from tests.by_hand import all_drawings, average, form_number, random_plan, random_population, random_target, random_web
+from tests.by_hand import TRAITS, average, form_number, random_population, random_target, random_web, some_plans
 
-TRAITS = [("f", 1, False, False), ("g", 2, False, False), ("even", 2, False, True), ("flag", 1, True, False)]
-SMALL = [
-    World(parts, TRAITS) for parts in ([("a", (3,))], [("a", (2, 2))], [("a", (1, 2)), ("b", (2,))], [("a", (2, 1, 2))])
-]
 MOST = 10 ** 30
 PLAIN = World.plain(9)
 THREE = Plan(PLAIN, [("a", None, ((3,),))], [("f", "a", "all")])
@@ -44,17 +40,6 @@ def random_form(source, plan, many=2, most=2, largest=4):
 def first_unknown(form):
     """The first web of a form that wishes the wave b."""
     return [web for web, _ in form.terms() if any("b" in names for names in web[1])][0]
-
-
-def some_plans(source, many):
-    """Random plans of small worlds, with their drawings."""
-    found = []
-    while len(found) < many:
-        plan = random_plan(source, source.choice(SMALL))
-        drawings = all_drawings(plan)
-        if len(drawings) <= 60:
-            found.append((plan, drawings))
-    return found
 
 
 class TestSpread(unittest.TestCase):

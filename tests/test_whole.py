@@ -27,28 +27,13 @@ from fewtell.surveys import Survey
 from fewtell.texts import program_text, read_program
 from fewtell.webs import is_web, standard, web_text
 from fewtell.worlds import World
-from tests import by_hand
-from tests.by_hand import form_number, good_program, number_of, pair, random_plan, random_population, random_target
+from tests.by_hand import TRAITS, form_number, good_program, number_of, pair, random_population, random_target, some_plans
 
-TRAITS = [("f", 1, False, False), ("g", 2, False, False), ("even", 2, False, True), ("flag", 1, True, False)]
-SMALL = [
-    World(parts, TRAITS) for parts in ([("a", (3,))], [("a", (2, 2))], [("a", (1, 2)), ("b", (2,))], [("a", (2, 1, 2))])
-]
 MOST = 10 ** 30
 
 
 def target(text, world):
     return form_of(world, read_program(text))
-
-
-def some_plans(source, many, most=60):
-    """Random plans with sights of small worlds."""
-    found = []
-    while len(found) < many:
-        plan = random_plan(source, source.choice(SMALL))
-        if plan.sights() and len(by_hand.all_drawings(plan)) <= most:
-            found.append(plan)
-    return found
 
 
 def seen_rows(drawing, population):
@@ -59,7 +44,7 @@ def seen_rows(drawing, population):
 class TestTextsAndPages(unittest.TestCase):
     def test_answers_are_the_same(self):
         source = random.Random(811)
-        for plan in some_plans(source, 40):
+        for plan, _ in some_plans(source, 40, with_sights=True):
             again = read_plan(write_plan(plan))
             self.assertEqual((again, again.world), (plan, plan.world))
             program = good_program(source, plan.world, most_width=2)
@@ -88,7 +73,7 @@ class TestTextsAndPages(unittest.TestCase):
 
     def test_desks_and_surveys(self):
         source = random.Random(812)
-        for plan in some_plans(source, 25):
+        for plan, _ in some_plans(source, 25, with_sights=True):
             drawing = source.choice(list(all_drawings(plan)))
             again = read_plan(write_plan(plan))
             survey = Survey(plan, drawing)
@@ -151,7 +136,7 @@ class TestArguments(unittest.TestCase):
 
     def test_equal_calls_tell_equal_things(self):
         source = random.Random(821)
-        for plan in some_plans(source, 15):
+        for plan, _ in some_plans(source, 15, with_sights=True):
             form = random_target(source, plan.world)
             one, other = guess_for(plan, form), guess_for(Plan(plan.world, plan.waves(), plan.sights()), form)
             self.assertEqual((one.told(), one.holds()), (other.told(), other.holds()))
@@ -383,7 +368,7 @@ class TestBounds(unittest.TestCase):
 class TestSurveysByManyRoads(unittest.TestCase):
     def test_the_same_state_by_any_road(self):
         source = random.Random(871)
-        for plan in some_plans(source, 20):
+        for plan, _ in some_plans(source, 20, with_sights=True):
             drawing = source.choice(list(all_drawings(plan)))
             population = random_population(source, plan.world, 8)
             rows = seen_rows(drawing, population)
@@ -418,7 +403,7 @@ class TestSurveysByManyRoads(unittest.TestCase):
         source = random.Random(901)
         checked = 0
         while checked < 15:
-            plan = some_plans(source, 1)[0]
+            plan, _ = some_plans(source, 1, with_sights=True)[0]
             form = random_target(source, plan.world, 2)
             if not guess_for(plan, form) or form.degree > 4:
                 continue
@@ -438,7 +423,7 @@ class TestSurveysByManyRoads(unittest.TestCase):
 
     def test_drawings_with_children_exchanged(self):
         source = random.Random(881)
-        for plan in some_plans(source, 40):
+        for plan, _ in some_plans(source, 40, with_sights=True):
             world = plan.world
             nodes = sorted({node[:level] for node in world.all_people() for level in range(2, len(node) + 1)})
             one = source.choice(nodes)
@@ -465,7 +450,7 @@ def exchanged(node, one, other):
 class TestPlansInOtherWords(unittest.TestCase):
     def test_numbers_that_draw_all(self):
         source = random.Random(891)
-        for plan in some_plans(source, 25):
+        for plan, _ in some_plans(source, 25, with_sights=True):
             sizes = {None: [sizes for _, sizes in plan.world.parts()]}
             waves = []
             for name, wave_source, hows in plan.waves():
@@ -502,7 +487,7 @@ class TestPlansInOtherWords(unittest.TestCase):
     def test_other_names_of_waves_and_another_order_of_sights(self):
         source = random.Random(892)
         names = {"a": "z", "b": "y", "c": "x"}
-        for plan in some_plans(source, 25):
+        for plan, _ in some_plans(source, 25, with_sights=True):
             waves = [(names[name], names.get(wave), hows) for name, wave, hows in plan.waves()]
             sights = [(trait, names[wave], ends) for trait, wave, ends in plan.sights()][::-1]
             same = Plan(plan.world, waves, sights)
@@ -528,7 +513,7 @@ class TestPlansInOtherWords(unittest.TestCase):
 class TestProgramsThroughTheWholeProgram(unittest.TestCase):
     def test_programs_with_waves_for_all_drawings(self):
         source = random.Random(902)
-        for plan in some_plans(source, 25):
+        for plan, _ in some_plans(source, 25, with_sights=True):
             names = tuple(plan.names())
             program = good_program(source, plan.world, names, most_width=3)
             form = plan_form(plan, read_program(program_text(program)))
@@ -544,7 +529,7 @@ class TestProgramsThroughTheWholeProgram(unittest.TestCase):
     def test_programs_that_are_alike_have_the_same_answers(self):
         source = random.Random(903)
         words = {"alike": 0, "apart": 0}
-        for plan in some_plans(source, 60):
+        for plan, _ in some_plans(source, 60, with_sights=True):
             one = good_program(source, plan.world, most_width=2)
             other = source.choice([("plus", one, ("num", 0, 1)), good_program(source, plan.world, most_width=2)])
             answer = compare(plan.world, one, other)
@@ -560,7 +545,7 @@ class TestProgramsThroughTheWholeProgram(unittest.TestCase):
 
     def test_webs_of_forms_are_standard(self):
         source = random.Random(904)
-        for plan in some_plans(source, 20):
+        for plan, _ in some_plans(source, 20, with_sights=True):
             answer = guess_for(plan, random_target(source, plan.world))
             form = answer.form if answer else answer.target
             for web, _ in form.terms():
