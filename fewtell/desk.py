@@ -124,8 +124,8 @@ def answer_to(survey, line):
     if line in WORDS:
         ask = WORDS[line]
         return ask(survey)
-    word, sign, rest = line.partition(" ")
-    if sign == "" or word not in BEGINNINGS:
+    word, _, rest = line.partition(" ")
+    if word not in BEGINNINGS:
         return "invalid"
     answer = BEGINNINGS[word]
     return answer(survey, rest)

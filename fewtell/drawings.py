@@ -167,7 +167,6 @@ class Drawing:
 
     def value(self, form, population):
         """The number of a form for the drawing and a population."""
-        check_worlds(self._plan, form)
         check_worlds(self._plan, population)
         check_form(self._plan, form)
         return form_number(form, population, [(name, self.people(name)) for name in self._plan.names()])
@@ -186,9 +185,7 @@ def lot_count(how, supply):
         if many > Drawing.MOST:
             raise TooMany(MOST_DRAWINGS)
         return comb(supply, many)
-    if supply > Drawing.MOST:
-        raise TooMany(MOST_DRAWINGS)
-    return 1 << supply
+    return raised(2, min(supply, Drawing.MOST))
 
 
 def lots_at(world, how, node, source):

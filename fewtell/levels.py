@@ -303,7 +303,6 @@ def lcm_of(numbers):
 
 def never_below(form, trait):
     """A Never or a Below about a square form."""
-    check_square(form, trait)
     blocks = blocks_below(form, trait)
     if blocks is None:
         return Never(form.world, form, trait)

@@ -211,14 +211,18 @@ class Closed(Answer):
         return signed_number(self._target, self._rows) != ZERO
 
 
+def is_closing(world, row):
+    """Whether any value is a pair of a standard entry and a number other than 0 for it."""
+    entry = entry_of_row(world, row)
+    return entry is not None and entry == row[0] and row[1] != 0
+
+
 def are_closing(world, rows):
-    """Whether rows are pairs of different standard entries of a few people and numbers other than 0 for them."""
-    if not 1 <= len(rows) <= MOST_ENTRIES or None in [entry_of_row(world, row) for row in rows]:
+    """Whether rows are pairs of a few different standard entries with few people, and of numbers for them."""
+    if not 1 <= len(rows) <= MOST_ENTRIES or not all([is_closing(world, row) for row in rows]):
         return False
-    if not all([entry_of_row(world, row) == row[0] and row[1] != 0 for row in rows]):
-        return False
-    entries = {entry for entry, _ in rows}
-    return len(entries) == len(rows) and len(people_of([entry for entry, _ in rows])) <= MOST_PEOPLE
+    entries = [entry for entry, _ in rows]
+    return len({entry for entry in entries}) == len(rows) and len(people_of(entries)) <= MOST_PEOPLE
 
 
 def people_of(entries):

@@ -40,17 +40,15 @@ def needs_one(target, traits):
 
 
 def still_kept(estimates, state, other):
-    """The estimates that stay the same if a state of a survey becomes another one."""
-    plan, drawing, numbers, targets = state
-    its_plan, its_drawing, its_numbers, its_targets = other
-    if plan != its_plan or drawing != its_drawing:
+    """The estimates that stay the same if a state of a survey becomes another one by a step."""
+    _, drawing, numbers, _ = state
+    _, its_drawing, its_numbers, its_targets = other
+    # Equal drawings have equal plans, and no step puts another target under a name that stays.
+    if drawing != its_drawing:
         return {}
     changed = changed_traits(numbers, its_numbers)
-    found = {}
-    for name, estimate in estimates.items():
-        if name in its_targets and targets[name] == its_targets[name] and not needs_one(targets[name][0], changed):
-            found[name] = estimate
-    return found
+    return {name: estimate for name, estimate in estimates.items()
+            if name in its_targets and not needs_one(its_targets[name][0], changed)}
 
 
 class Survey:

@@ -93,6 +93,21 @@ class TestSight(unittest.TestCase):
                 self.assertEqual(caught.exception.given, value)
 
 
+    def test_several_sights_of_a_trait(self):
+        waves = [("a", None, ((6,),)), ("b", "a", ((3,),)), ("c", None, (((1, 4),),))]
+        one = web([(0, 0)], ("f", (0,)))
+        for sights, text in [
+            ("ab", "1 f(0) @ 0.0:a"), ("ba", "1 f(0) @ 0.0:a"), ("b", "1 f(0) @ 0.0:b"),
+            ("ac", "1 f(0) @ 0.0:a + -1 f(0) @ 0.0:a,c + 1 f(0) @ 0.0:c"),
+            ("cab", "1 f(0) @ 0.0:a + -1 f(0) @ 0.0:a,c + 1 f(0) @ 0.0:c"),
+            ("bc", "1 f(0) @ 0.0:b + -1 f(0) @ 0.0:b,c + 1 f(0) @ 0.0:c"),
+        ]:
+            plan = Plan(PLAIN, waves, [("f", wave, "all") for wave in sights] + [("f", sights[0], "any")])
+            self.assertEqual(str(seen_web(plan, one)), text)
+        plan = Plan(PLAIN, waves, [("f", "a", "all"), ("f", "b", "all"), ("f", "c", "all")])
+        self.assertEqual(sight(plan, one), pair(1 - Fraction(1, 3) * Fraction(3, 4)))
+
+
 class TestPossible(unittest.TestCase):
     def test_guesses_that_are_right_on_average(self):
         source = random.Random(483)
@@ -343,6 +358,20 @@ class TestClosed(unittest.TestCase):
         # Above the degree 8 there is an answer, but it need not hold.
         answer = guess_for(plan, form_with(9))
         self.assertEqual((answer.told(), [its for its, _ in answer.rows()]), ("closed", sorted(entries)))
+
+    def test_targets_that_vanish_for_all_small_numbers(self):
+        # The product of f(i) and of f(i) less each number from 1 to 8: its degree is 9.
+        plan = Plan(PLAIN, [("a", None, ((3,),))])
+        factors = [1]
+        for root in range(9):
+            factors = [low - root * high for low, high in zip([0, *factors], [*factors, 0])]
+        rows = [(web([(0, 0)], *[("f", (0,))] * power), (factor, 1)) for power, factor in enumerate(factors) if power]
+        form = Form(PLAIN, [row for row in rows if row[1] != (0, 1)])
+        self.assertEqual([form.value(Population(PLAIN, [(entry((0, 3)), number)]))[0] for number in range(9)], [0] * 9)
+        answer = guess_for(plan, form)
+        self.assertEqual((answer.told(), answer.rows(), answer.holds()), ("closed", [(entry((0, 0)), 1)], False))
+        self.assertTrue(Closed(plan, form, [(entry((0, 0)), 9)]).holds())
+        self.assertTrue(Closed(plan, form, [(entry((0, 0)), -1)]).holds())
 
     def test_four_and_five_people(self):
         plan = Plan(PLAIN, [("a", None, ((3,),))], [("f", "a", "all")])

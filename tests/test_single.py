@@ -375,7 +375,12 @@ class TestErrors(unittest.TestCase):
         sights = [("f", "b", "all"), ("f", "c", "all")]
         with self.assertRaises(TooLarge):
             only_guess(plan_of(3, 4, 5, sights=sights), target(rows[1][0]))
-        # The webs that are not the least one are not looked at.
+        # The webs that are not the least one are not looked at, not even if nothing is found for this one.
+        plan = plan_of(5, 6, sights=[("f", "a", "all"), ("flag", "a", "all"), ("flag", "b", "all")])
+        both = TOTAL + target("sum(i: flag(i))")
+        self.assertEqual(only_guess(plan, both).told(), "unsaid")
+        self.assertEqual(only_guess(plan, both - TOTAL).told(), "another")
+        plan = plan_of(5, 6, sights=[("f", "a", "all"), ("f", "b", "all")])
         self.assertEqual(only_guess(plan, TOTAL + target(rows[1][0])).told(), "another")
 
 

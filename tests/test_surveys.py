@@ -471,6 +471,9 @@ class TestRedraw(SurveyCase):
         blind = Plan(WORLD, PLAN.waves(), [("g", "a", "all")])
         survey.keep("z", FLAGS)
         survey.keep("b", target("(sum(i: sum(j: g(i,j))) + sum(i: f(i)^2) + sum(i: (f(i)^2 * flag(i))))"))
+        for its in (survey, Survey(PLAN, DRAWING)):
+            with self.assertRaises(UnlikeWorlds):
+                its.redraw(foreign, Drawing(foreign, [ROW]))
         self.refused(lambda: survey.redraw(foreign, Drawing(foreign, [ROW])), UnlikeWorlds)
         self.refused(lambda: survey.redraw(foreign, DRAWING), UnlikeWorlds)
         self.refused(lambda: survey.redraw(blind, DRAWING), UnlikeWorlds)
